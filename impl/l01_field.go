@@ -178,11 +178,8 @@ func FieldOf(n int) (string, int) {
 }
 
 func FieldRead(b string) (string, int) {
-	if anyLong(b) {
-		return "", ErrLong
-	}
-	if len(b) != FieldSize {
-		return "", ErrBad
+	if code := sizeCode(b); code != OK {
+		return "", code
 	}
 	return limbsOf(b).text(), OK
 }
@@ -242,6 +239,18 @@ func fieldCode(numbers ...string) int {
 	}
 	for _, a := range numbers {
 		if !FieldOK(a) {
+			return ErrBad
+		}
+	}
+	return OK
+}
+
+func sizeCode(texts ...string) int {
+	if anyLong(texts...) {
+		return ErrLong
+	}
+	for _, t := range texts {
+		if len(t) != FieldSize {
 			return ErrBad
 		}
 	}

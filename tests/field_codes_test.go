@@ -2,26 +2,14 @@ package tests
 
 import (
 	"fmt"
-	"maps"
 	"math"
 	"math/big"
 	"slices"
 	"strings"
-	"sync"
 	"testing"
 
 	"loop.example/g00254/impl"
 )
-
-type oneText struct {
-	name string
-	call func(string) (string, int)
-}
-
-type twoTexts struct {
-	name string
-	call func(a, b string) (string, int)
-}
 
 func fieldOfOne() []oneText {
 	return []oneText{{"FieldInverse", impl.FieldInverse}, {"FieldDecimal", impl.FieldDecimal}}
@@ -100,19 +88,6 @@ func TestP1FieldOfTwoWrong(t *testing.T) {
 	}
 }
 
-// wantLongFirst asks that ErrLong comes ahead of what else may be wrong, in either place.
-func wantLongFirst(t *testing.T, f twoTexts, others []string) {
-	t.Helper()
-	for _, long := range longTexts() {
-		for _, a := range append(others, long) {
-			got, code := f.call(a, long)
-			wantCode(t, fmt.Sprintf("%s of %d, %d bytes", f.name, len(a), len(long)), got, code, impl.ErrLong)
-			got, code = f.call(long, a)
-			wantCode(t, fmt.Sprintf("%s of %d, %d bytes", f.name, len(long), len(a)), got, code, impl.ErrLong)
-		}
-	}
-}
-
 func TestP1FieldPowerWrong(t *testing.T) {
 	right := text32(big.NewInt(7))
 	for _, a := range slices.Concat(wrongNumbers(), wrongLengths()) {
@@ -136,8 +111,8 @@ func TestP1FieldInverseOfNought(t *testing.T) {
 	wantCode(t, "FieldInverse of the prime", got, code, impl.ErrBad)
 }
 
-// everyAnswer tells what all functions of both chapters answer, in one order or the other.
-func everyAnswer(backwards bool) map[string]string {
+// fieldAnswers tells what all functions of names, codes and the field answer, in one order or the other.
+func fieldAnswers(backwards bool) map[string]string {
 	texts := slices.Concat(wrongNumbers(), wrongLengths(), longTexts(), []string{"a", "_x1", "ok", "zero"})
 	for _, n := range fewNumbers() {
 		texts = append(texts, text32(n))
@@ -168,41 +143,12 @@ func everyAnswer(backwards bool) map[string]string {
 	return out
 }
 
-func TestP1AlikeArgumentsAlikeAnswers(t *testing.T) {
-	first := everyAnswer(false)
-	for _, backwards := range []bool{false, true, false} {
-		if !maps.Equal(first, everyAnswer(backwards)) {
-			t.Error("answers differ from those of before; backwards:", backwards)
-		}
-	}
-}
+func TestP1AlikeArgumentsAlikeAnswers(t *testing.T) { wantAlike(t, fieldAnswers) }
 
-func TestP1CallsBesideEachOther(t *testing.T) {
-	first := everyAnswer(false)
-	var alike [4]bool
-	var group sync.WaitGroup
-	for i := range alike {
-		group.Go(func() { alike[i] = maps.Equal(first, everyAnswer(i%2 == 1)) })
-	}
-	group.Wait()
-	if alike != [4]bool{true, true, true, true} {
-		t.Error("answers differ:", alike)
-	}
-}
+func TestP1CallsBesideEachOther(t *testing.T) { wantAlikeBeside(t, fieldAnswers) }
 
 func TestP1ArgumentsStay(t *testing.T) {
-	a, b := text32(less(prime(), 1)), text32(power2(254))
-	keptA, keptB := strings.Clone(a), strings.Clone(b)
-	for _, f := range append(fieldOfTwo(), twoTexts{"FieldPower", impl.FieldPower}) {
-		f.call(a, b)
-		if a != keptA || b != keptB {
-			t.Error(f.name, "changed an argument")
-		}
-	}
-	for _, f := range append(fieldOfOne(), oneText{"FieldRead", impl.FieldRead}) {
-		f.call(a)
-		if a != keptA {
-			t.Error(f.name, "changed its argument")
-		}
-	}
+	one := append(fieldOfOne(), oneText{"FieldRead", impl.FieldRead})
+	two := append(fieldOfTwo(), twoTexts{"FieldPower", impl.FieldPower})
+	wantArgumentsStay(t, one, two, text32(less(prime(), 1)), text32(power2(254)))
 }

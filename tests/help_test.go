@@ -2,8 +2,11 @@ package tests
 
 import (
 	"crypto/sha256"
+	"fmt"
+	"maps"
 	"math/big"
 	"strings"
+	"sync"
 	"testing"
 
 	"loop.example/g00254/impl"
@@ -109,5 +112,70 @@ func wantCode(t *testing.T, call string, got string, code int, want int) {
 	t.Helper()
 	if code != want || got != "" {
 		t.Errorf("%s: got %q, code %d; want nothing, code %d", call, got, code, want)
+	}
+}
+
+type oneText struct {
+	name string
+	call func(string) (string, int)
+}
+
+type twoTexts struct {
+	name string
+	call func(a, b string) (string, int)
+}
+
+// wantLongFirst asks that ErrLong comes ahead of what else may be wrong, in either place.
+func wantLongFirst(t *testing.T, f twoTexts, others []string) {
+	t.Helper()
+	for _, long := range longTexts() {
+		for _, a := range append(others, long) {
+			got, code := f.call(a, long)
+			wantCode(t, fmt.Sprintf("%s of %d, %d bytes", f.name, len(a), len(long)), got, code, impl.ErrLong)
+			got, code = f.call(long, a)
+			wantCode(t, fmt.Sprintf("%s of %d, %d bytes", f.name, len(long), len(a)), got, code, impl.ErrLong)
+		}
+	}
+}
+
+// wantAlike asks the same things over and over, in one order and the other.
+func wantAlike(t *testing.T, answers func(backwards bool) map[string]string) {
+	t.Helper()
+	first := answers(false)
+	for _, backwards := range []bool{false, true, false} {
+		if !maps.Equal(first, answers(backwards)) {
+			t.Error("answers differ from those of before; backwards:", backwards)
+		}
+	}
+}
+
+func wantAlikeBeside(t *testing.T, answers func(backwards bool) map[string]string) {
+	t.Helper()
+	first := answers(false)
+	var alike [4]bool
+	var group sync.WaitGroup
+	for i := range alike {
+		group.Go(func() { alike[i] = maps.Equal(first, answers(i%2 == 1)) })
+	}
+	group.Wait()
+	if alike != [4]bool{true, true, true, true} {
+		t.Error("answers differ:", alike)
+	}
+}
+
+func wantArgumentsStay(t *testing.T, one []oneText, two []twoTexts, a, b string) {
+	t.Helper()
+	keptA, keptB := strings.Clone(a), strings.Clone(b)
+	for _, f := range two {
+		f.call(a, b)
+		if a != keptA || b != keptB {
+			t.Error(f.name, "changed an argument")
+		}
+	}
+	for _, f := range one {
+		f.call(a)
+		if a != keptA {
+			t.Error(f.name, "changed its argument")
+		}
 	}
 }
