@@ -87,8 +87,8 @@ func CodeOf(word string) int {
 	return -1
 }
 
-// anyLong is asked ahead of all else, for ErrLong comes ahead of all other codes.
-func anyLong(texts ...string) bool {
+// anyLong is asked ahead of all else, for ErrLong comes ahead of all other codes; bytes count as a text.
+func anyLong[T string | []byte](texts ...T) bool {
 	for _, t := range texts {
 		if len(t) > MaxText {
 			return true
