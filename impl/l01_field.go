@@ -25,7 +25,7 @@ const (
 // stand above them by less than 128. Only settled makes the one form of a number.
 type limbs [limbCount]uint64
 
-// wide is a sum of products of limbs: it needs up to 111 bits, and one word has 64.
+// wide is a sum of products, which one word of 64 bits can't hold: of limbs it needs up to 111 bits.
 type wide struct{ high, low uint64 }
 
 func (w wide) plusProduct(a, b uint64) wide {

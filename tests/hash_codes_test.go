@@ -1,7 +1,6 @@
 package tests
 
 import (
-	"bytes"
 	"fmt"
 	"math"
 	"slices"
@@ -9,13 +8,6 @@ import (
 
 	"loop.example/g00254/impl"
 )
-
-// bytesCall is a function of the chapter with its lists of bytes in one list; a text and a number may stand among them.
-type bytesCall struct {
-	name   string
-	places int
-	call   func(list [][]byte, n int) (string, int)
-}
 
 func drawCalls() []bytesCall {
 	return []bytesCall{
@@ -35,15 +27,6 @@ func codedCalls() []bytesCall {
 func hashCalls() []bytesCall {
 	return append(codedCalls(),
 		bytesCall{"Hash", 1, func(x [][]byte, n int) (string, int) { return impl.Hash(x[0]), impl.OK }})
-}
-
-// shortLists are as many lists as a call has places for, each of them of a length of its own.
-func shortLists(places int) [][]byte {
-	var out [][]byte
-	for i := range places {
-		out = append(out, someBytes(20+10*i))
-	}
-	return out
 }
 
 func wrongDraws() []int {
@@ -133,46 +116,20 @@ func TestP1HashesLongFirst(t *testing.T) {
 	}
 }
 
-// guarded lies in the middle of a list whose other bytes no call has to do with.
-func guarded(b []byte) (inside, whole []byte) {
-	whole = slices.Concat(bytes.Repeat([]byte{0xa5}, 100), b, bytes.Repeat([]byte{0x5a}, 300))
-	return whole[100 : 100+len(b)], whole
-}
-
 func TestP1HashesWriteIntoNoArgument(t *testing.T) {
 	for _, f := range hashCalls() {
 		for _, size := range []int{0, 1, 32, 55, 56, 63, 64, 65, 119, 120, 200, impl.MaxText, impl.MaxText + 1} {
 			for _, n := range []int{-1, 0, 1, 33, 100, 8161} {
-				list, wholes := make([][]byte, f.places), make([][]byte, f.places)
-				for i := range list {
-					list[i], wholes[i] = guarded(someBytes(size))
-				}
-				_, want := guarded(someBytes(size))
-				f.call(list, n)
-				for i, whole := range wholes {
-					if !bytes.Equal(whole, want) {
-						t.Errorf("%s of %d bytes, %d: argument %d was written into, or around it", f.name, size, n, i)
-					}
-				}
+				wantNoWriting(t, f, listsOf(f.places, size), n)
 			}
 		}
 	}
 }
 
-// TestP1HashesReadNothingBehind: what lies behind a list's end, and how much room is there, is not seen in an answer.
 func TestP1HashesReadNothingBehind(t *testing.T) {
 	for _, f := range hashCalls() {
 		for _, size := range []int{0, 1, 32, 55, 56, 63, 64, 65, 119, 120, 200} {
-			tight, roomy := make([][]byte, f.places), make([][]byte, f.places)
-			for i := range tight {
-				tight[i] = slices.Clip(someBytes(size))
-				roomy[i], _ = guarded(someBytes(size))
-			}
-			want, wantedCode := f.call(tight, 70)
-			got, code := f.call(roomy, 70)
-			if got != want || code != wantedCode {
-				t.Errorf("%s of %d bytes: %x, code %d; with bytes behind %x, code %d", f.name, size, want, wantedCode, got, code)
-			}
+			wantNothingReadBehind(t, f, listsOf(f.places, size), 70)
 		}
 	}
 }
@@ -181,11 +138,8 @@ func TestP1HashesReadNothingBehind(t *testing.T) {
 func TestP1HashesOfOneListInEachPlace(t *testing.T) {
 	for _, f := range hashCalls() {
 		for _, size := range []int{0, 40, 64, 65, 100} {
-			shared, apart := make([][]byte, f.places), make([][]byte, f.places)
-			one := someBytes(size)
-			for i := range shared {
-				shared[i], apart[i] = one, someBytes(size)
-			}
+			apart := listsOf(f.places, size)
+			shared := slices.Repeat([][]byte{someBytes(size)}, f.places)
 			want, wantedCode := f.call(apart, 70)
 			if got, code := f.call(shared, 70); got != want || code != wantedCode {
 				t.Errorf("%s of one list of %d bytes: %x, code %d; want %x, code %d", f.name, size, got, code, want, wantedCode)
@@ -196,17 +150,8 @@ func TestP1HashesOfOneListInEachPlace(t *testing.T) {
 
 func TestP1HashesOfNilAndEmpty(t *testing.T) {
 	for _, f := range hashCalls() {
-		for place := range f.places {
-			for _, n := range []int{-1, 0, 1, 100, 8161} {
-				withNil, withEmpty, withRoom := shortLists(f.places), shortLists(f.places), shortLists(f.places)
-				withNil[place], withEmpty[place], withRoom[place] = nil, []byte{}, make([]byte, 0, 100)
-				want, wantedCode := f.call(withNil, n)
-				for _, list := range [][][]byte{withEmpty, withRoom} {
-					if got, code := f.call(list, n); got != want || code != wantedCode {
-						t.Errorf("%s, %d: nil and an empty list at %d differ", f.name, n, place)
-					}
-				}
-			}
+		for _, n := range []int{-1, 0, 1, 100, 8161} {
+			wantNilAsEmpty(t, f, shortLists(f.places), n)
 		}
 	}
 }
