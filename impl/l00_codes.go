@@ -96,3 +96,5 @@ func anyLong[T string | []byte](texts ...T) bool {
 	}
 	return false
 }
+
+func longList[T any](list []T) bool { return len(list) > MaxList }
